@@ -6,6 +6,7 @@ import (
 	"testing"
 
 	"stepwell/api"
+	"stepwell/sample"
 	"stepwell/tensor"
 )
 
@@ -14,55 +15,10 @@ const (
 	maxInt = math.MaxInt64
 )
 
-// far are numbers that no row, column or channel has; some would fit if they were cut to fewer bits, or multiplied without care.
-var far = []int{minInt, minInt + 1, -1 << 62, -1 << 32, -1025, -17, -2, -1, 1024, 1025, 1 << 31, 1 << 32, 1<<32 + 1, 1 << 62, maxInt - 1, maxInt}
-
-var wrongShapes = []api.Shape{
-	{}, {H: 1, W: 1}, {H: 1, C: 1}, {W: 1, C: 1}, {H: -1, W: -1, C: 1}, {H: -1, W: 1, C: -1}, {H: 1, W: -2, C: -2}, {H: 17, W: 1, C: 1}, {H: 1, W: 17, C: 1}, {H: 16, W: 16, C: 5}, {H: 1, W: 1, C: 1025},
-	{H: 1 << 32, W: 1 << 32, C: 1}, {H: 1 << 62, W: 4, C: 1}, {H: maxInt, W: maxInt, C: maxInt}, {H: minInt, W: minInt, C: minInt}, {H: minInt, W: 1, C: 1}, {H: 1, W: 1, C: minInt}, {H: 1, W: maxInt, C: 1},
-}
-
-var rightShapes = []api.Shape{
-	{H: 1, W: 1, C: 1}, {H: 1, W: 1, C: 7}, {H: 1, W: 5, C: 1}, {H: 6, W: 1, C: 1}, {H: 2, W: 3, C: 4}, {H: 4, W: 3, C: 2}, {H: 3, W: 3, C: 3},
-	{H: 16, W: 16, C: 4}, {H: 1, W: 1, C: 1024}, {H: 16, W: 1, C: 64}, {H: 1, W: 16, C: 64}, {H: 16, W: 16, C: 1}, {H: 3, W: 1, C: 341},
-}
-
-// varied is numbers of which neighbours differ, with both limits among many.
-func varied(size int) []int8 {
-	data := make([]int8, size)
-	for i := range data {
-		data[i] = int8(i*37 - 128)
-	}
-	return data
-}
-
-func rightTensor(s api.Shape) api.Tensor {
-	return api.Tensor{Shape: s, Data: varied(s.H * s.W * s.C)}
-}
-
-// wrongTensors are invalid by their shapes, or by the number of their numbers.
-func wrongTensors() []api.Tensor {
-	var l []api.Tensor
-	for _, s := range wrongShapes {
-		for _, size := range []int{0, 1, 2, 17, 1024, 1025, 1280} {
-			l = append(l, api.Tensor{Shape: s, Data: varied(size)})
-		}
-		l = append(l, api.Tensor{Shape: s})
-	}
-	for _, s := range rightShapes {
-		size := s.H * s.W * s.C
-		for _, n := range []int{0, size - 1, size + 1, 2 * size} {
-			l = append(l, api.Tensor{Shape: s, Data: varied(n)})
-		}
-		l = append(l, api.Tensor{Shape: s})
-	}
-	return l
-}
-
-// wide is numbers with others in their capacity, behind their end.
-func wide(data []int8) []int8 {
-	return append(slices.Clone(data), 101, 102, 103)[:len(data)]
-}
+var (
+	far         = sample.Far()
+	rightShapes = sample.Shapes()
+)
 
 func none(t api.Tensor) bool {
 	return t.Shape == api.Shape{} && len(t.Data) == 0
@@ -110,14 +66,14 @@ func eachWrongElement(s api.Shape, visit func(h, w, c int)) {
 // P5.1
 func TestRight(t *testing.T) {
 	for _, s := range rightShapes {
-		if !tensor.Right(rightTensor(s)) {
+		if !tensor.Right(sample.Tensor(s)) {
 			t.Errorf("a tensor of %+v is not right", s)
 		}
-		if !tensor.Right(api.Tensor{Shape: s, Data: wide(varied(s.H * s.W * s.C))}) {
+		if !tensor.Right(api.Tensor{Shape: s, Data: sample.Wide(sample.Numbers(s.H * s.W * s.C))}) {
 			t.Errorf("a tensor of %+v with more capacity is not right", s)
 		}
 	}
-	for _, x := range wrongTensors() {
+	for _, x := range sample.WrongTensors() {
 		if tensor.Right(x) {
 			t.Errorf("%d numbers in %+v are right", len(x.Data), x.Shape)
 		}
@@ -130,13 +86,13 @@ func TestRight(t *testing.T) {
 // P5.1
 func TestOf(t *testing.T) {
 	for _, s := range rightShapes {
-		want := rightTensor(s)
-		got, err := tensor.Of(s, wide(want.Data))
+		want := sample.Tensor(s)
+		got, err := tensor.Of(s, sample.Wide(want.Data))
 		if err != api.OK || !same(got, want) {
 			t.Errorf("Of(%+v) = %+v, %d, want its numbers", s, got, err)
 		}
 	}
-	for _, x := range wrongTensors() {
+	for _, x := range sample.WrongTensors() {
 		if got, err := tensor.Of(x.Shape, x.Data); err != api.ErrShape || !none(got) {
 			t.Errorf("Of(%+v, %d numbers) = %+v, %d, want none, ErrShape", x.Shape, len(x.Data), got, err)
 		}
@@ -153,7 +109,7 @@ func TestFill(t *testing.T) {
 			}
 		}
 	}
-	for _, s := range wrongShapes {
+	for _, s := range sample.WrongShapes() {
 		for _, v := range []int8{0, 9} {
 			if got, err := tensor.Fill(s, v); err != api.ErrShape || !none(got) {
 				t.Errorf("Fill(%+v, %d) = %+v, %d, want none, ErrShape", s, v, got, err)
@@ -174,7 +130,7 @@ func TestAt(t *testing.T) {
 		}
 	}
 	for _, s := range rightShapes {
-		x := rightTensor(s)
+		x := sample.Tensor(s)
 		eachElement(s, func(i, h, w, c int) {
 			if got, ok := tensor.At(x, h, w, c); got != x.Data[i] || !ok {
 				t.Fatalf("At(%+v, %d, %d, %d) = %d, %t, want %d, true", s, h, w, c, got, ok, x.Data[i])
@@ -197,11 +153,11 @@ func noElement(t *testing.T, x api.Tensor, h, w, c int) {
 // P5.2
 func TestNoSuchElement(t *testing.T) {
 	for _, s := range rightShapes {
-		x := rightTensor(s)
-		x.Data = wide(x.Data)
+		x := sample.Tensor(s)
+		x.Data = sample.Wide(x.Data)
 		eachWrongElement(s, func(h, w, c int) { noElement(t, x, h, w, c) })
 	}
-	for _, x := range wrongTensors() {
+	for _, x := range sample.WrongTensors() {
 		noElement(t, x, 0, 0, 0)
 		noElement(t, x, x.Shape.H-1, x.Shape.W-1, x.Shape.C-1)
 		for _, n := range far {
@@ -214,7 +170,7 @@ func TestNoSuchElement(t *testing.T) {
 // P5.2, P5.4
 func TestWith(t *testing.T) {
 	for _, s := range rightShapes {
-		x := rightTensor(s)
+		x := sample.Tensor(s)
 		eachElement(s, func(i, h, w, c int) {
 			for _, v := range []int8{-128, 0, 127, x.Data[i], x.Data[i] + 1} {
 				got, ok := tensor.With(x, h, w, c, v)
@@ -232,7 +188,7 @@ func TestWith(t *testing.T) {
 				}
 			}
 		})
-		if !same(x, rightTensor(s)) {
+		if !same(x, sample.Tensor(s)) {
 			t.Fatalf("With changed the tensor of %+v that was passed", s)
 		}
 	}
@@ -246,7 +202,7 @@ func TestSame(t *testing.T) {
 		a, b api.Tensor
 		want bool
 	}{
-		{x, x, true}, {x, api.Tensor{Shape: s, Data: wide(x.Data)}, true}, {x, api.Tensor{Shape: s, Data: []int8{1, -2, 3, 5}}, false}, {x, api.Tensor{Shape: s, Data: []int8{0, -2, 3, 4}}, false},
+		{x, x, true}, {x, api.Tensor{Shape: s, Data: sample.Wide(x.Data)}, true}, {x, api.Tensor{Shape: s, Data: []int8{1, -2, 3, 5}}, false}, {x, api.Tensor{Shape: s, Data: []int8{0, -2, 3, 4}}, false},
 		{x, api.Tensor{Shape: s, Data: x.Data[:3]}, false}, {x, api.Tensor{Shape: s, Data: []int8{1, -2, 3, 4, 0}}, false}, {x, api.Tensor{Shape: s}, false},
 		{x, api.Tensor{Shape: api.Shape{H: 2, W: 1, C: 2}, Data: x.Data}, false}, {x, api.Tensor{Shape: api.Shape{H: 1, W: 1, C: 4}, Data: x.Data}, false}, {x, api.Tensor{Shape: api.Shape{H: 1, W: 2, C: 3}, Data: x.Data}, false},
 		{api.Tensor{}, api.Tensor{}, true}, {api.Tensor{}, api.Tensor{Data: []int8{}}, true}, {api.Tensor{}, api.Tensor{Data: []int8{0}}, false}, {api.Tensor{}, x, false},
@@ -266,9 +222,9 @@ func TestSame(t *testing.T) {
 
 // P5.2: for all tensors, valid or not, each is the same as itself alone.
 func TestSameOfAll(t *testing.T) {
-	all := wrongTensors()
+	all := sample.WrongTensors()
 	for _, s := range rightShapes {
-		all = append(all, rightTensor(s))
+		all = append(all, sample.Tensor(s))
 	}
 	for _, a := range all {
 		for _, b := range all {
@@ -282,13 +238,13 @@ func TestSameOfAll(t *testing.T) {
 // P5.3
 func TestFlat(t *testing.T) {
 	for _, s := range rightShapes {
-		x := rightTensor(s)
+		x := sample.Tensor(s)
 		want := api.Tensor{Shape: api.Shape{H: 1, W: 1, C: len(x.Data)}, Data: x.Data}
 		if got, err := tensor.Flat(x); err != api.OK || !same(got, want) || !tensor.Right(got) {
 			t.Errorf("Flat of %+v = %+v, %d, want %+v", s, got, err, want)
 		}
 	}
-	for _, x := range wrongTensors() {
+	for _, x := range sample.WrongTensors() {
 		if got, err := tensor.Flat(x); err != api.ErrShape || !none(got) {
 			t.Errorf("Flat of %+v with %d numbers = %+v, %d, want none, ErrShape", x.Shape, len(x.Data), got, err)
 		}
@@ -310,15 +266,15 @@ func ranged(t *testing.T, x api.Tensor) []int8 {
 
 // P5.3: an invalid tensor has numbers too.
 func TestEach(t *testing.T) {
-	all := wrongTensors()
+	all := sample.WrongTensors()
 	for _, s := range rightShapes {
-		all = append(all, rightTensor(s))
+		all = append(all, sample.Tensor(s))
 	}
 	for _, x := range all {
 		if got := ranged(t, x); !slices.Equal(got, x.Data) {
 			t.Errorf("Each of %+v yields %d, want %d", x.Shape, got, x.Data)
 		}
-		x.Data = wide(x.Data)
+		x.Data = sample.Wide(x.Data)
 		if got := ranged(t, x); !slices.Equal(got, x.Data) {
 			t.Errorf("Each of %+v with more capacity yields %d, want %d", x.Shape, got, x.Data)
 		}
@@ -327,7 +283,7 @@ func TestEach(t *testing.T) {
 
 // P5.3: one that stops gets no more, and one function may be ranged over again.
 func TestEachStops(t *testing.T) {
-	x := rightTensor(api.Shape{H: 2, W: 3, C: 4})
+	x := sample.Tensor(api.Shape{H: 2, W: 3, C: 4})
 	each := tensor.Each(x)
 	for stop := range len(x.Data) {
 		var got []int8
@@ -360,7 +316,7 @@ func TestChannel(t *testing.T) {
 		}
 	}
 	for _, s := range rightShapes {
-		x := rightTensor(s)
+		x := sample.Tensor(s)
 		want := make([][]int8, s.C)
 		eachElement(s, func(i, h, w, c int) { want[c] = append(want[c], x.Data[i]) })
 		for c := range s.C {
@@ -381,7 +337,7 @@ func TestChannel(t *testing.T) {
 
 // P5.3
 func TestChannelOfWrong(t *testing.T) {
-	for _, x := range wrongTensors() {
+	for _, x := range sample.WrongTensors() {
 		for _, c := range append([]int{0, 1, x.Shape.C - 1, x.Shape.C}, far...) {
 			if got := tensor.Channel(x, c); len(got) != 0 {
 				t.Errorf("Channel %d of %+v with %d numbers = %d, want none", c, x.Shape, len(x.Data), got)
@@ -401,13 +357,13 @@ func TestReach(t *testing.T) {
 		{nil, 0, 0}, {[]int8{}, 0, 0},
 	} {
 		for _, s := range []api.Shape{{H: 1, W: 1, C: len(c.data)}, {H: 1, W: len(c.data), C: 1}, {}, {H: 4, W: 4, C: 4}} {
-			if lo, hi := tensor.Reach(api.Tensor{Shape: s, Data: wide(c.data)}); lo != c.lo || hi != c.hi {
+			if lo, hi := tensor.Reach(api.Tensor{Shape: s, Data: sample.Wide(c.data)}); lo != c.lo || hi != c.hi {
 				t.Errorf("Reach of %d in %+v = %d, %d, want %d, %d", c.data, s, lo, hi, c.lo, c.hi)
 			}
 		}
 	}
 	for _, s := range rightShapes {
-		x := rightTensor(s)
+		x := sample.Tensor(s)
 		if lo, hi := tensor.Reach(x); lo != slices.Min(x.Data) || hi != slices.Max(x.Data) {
 			t.Errorf("Reach of %+v = %d, %d", s, lo, hi)
 		}
@@ -417,7 +373,7 @@ func TestReach(t *testing.T) {
 // P5.5
 func TestChannelsAreAll(t *testing.T) {
 	for _, s := range rightShapes {
-		x := rightTensor(s)
+		x := sample.Tensor(s)
 		channels := make([][]int8, s.C)
 		for c := range channels {
 			channels[c] = tensor.Channel(x, c)
@@ -449,8 +405,8 @@ func results(t *testing.T, x api.Tensor) [][]int8 {
 // Rule 2: what is passed stays as it is, up to its capacity, and shares nothing with a result.
 func TestNothingIsShared(t *testing.T) {
 	for _, s := range rightShapes {
-		x := rightTensor(s)
-		x.Data = wide(x.Data)
+		x := sample.Tensor(s)
+		x.Data = sample.Wide(x.Data)
 		kept := api.Tensor{Shape: s, Data: slices.Clone(x.Data)}
 		before := append(slices.Clone(x.Data), 101, 102, 103)
 		each := tensor.Each(x)
@@ -496,7 +452,7 @@ func TestResultsAreNew(t *testing.T) {
 	if third, _ := tensor.Fill(s, 7); !slices.Equal(second.Data, slices.Repeat([]int8{7}, 24)) || !same(second, third) {
 		t.Error("Fill changed with another result")
 	}
-	x := rightTensor(s)
+	x := sample.Tensor(s)
 	one, two := tensor.Channel(x, 1), tensor.Channel(x, 1)
 	clear(one[:cap(one)])
 	if !slices.Equal(two, tensor.Channel(x, 1)) || slices.Equal(two, make([]int8, len(two))) {
