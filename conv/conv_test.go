@@ -22,17 +22,6 @@ func node(channels, k, stride, p, out int) api.Node {
 	return n
 }
 
-// windows visits all sides, steps and borders that a window may have.
-func windows(visit func(k, stride, p int)) {
-	for k := 1; k <= api.MaxKernel; k++ {
-		for stride := 1; stride <= api.MaxStride; stride++ {
-			for p := range k {
-				visit(k, stride, p)
-			}
-		}
-	}
-}
-
 func check(t *testing.T, call string, got api.Acc, err api.Errno, want api.Acc, wantErr api.Errno) {
 	t.Helper()
 	if err != wantErr || got.Shape != want.Shape || !slices.Equal(got.Data, want.Data) {
@@ -47,15 +36,9 @@ func checkShape(t *testing.T, s api.Shape, n api.Node, want api.Shape, wantErr a
 	}
 }
 
-// slid is the shape of a node's sums, or what is wrong with it, by a window that is moved as far as it goes.
+// slid is the shape of a node's sums, or what is wrong with it.
 func slid(s api.Shape, n api.Node) (api.Shape, api.Errno) {
-	r := api.Shape{C: n.Out}
-	for top := -n.P; top+n.K <= s.H+n.P; top += n.S {
-		r.H++
-	}
-	for left := -n.P; left+n.K <= s.W+n.P; left += n.S {
-		r.W++
-	}
+	r := sample.Slid(s, n, n.Out)
 	if !shape.Right(r) {
 		return api.Shape{}, api.ErrShape
 	}
@@ -71,21 +54,14 @@ func spread(x api.Tensor, n api.Node, s api.Shape) api.Acc {
 	for i := range sums {
 		sums[i] = int64(n.Bias[i%n.Out])
 	}
-	for at, v := range x.Data {
-		row, column, c := at/x.Shape.C/x.Shape.W, at/x.Shape.C%x.Shape.W, at%x.Shape.C
-		for i := range n.K {
-			for j := range n.K {
-				down, right := row+n.P-i, column+n.P-j
-				if down < 0 || right < 0 || down%n.S != 0 || right%n.S != 0 || down/n.S >= s.H || right/n.S >= s.W {
-					continue
-				}
-				for o := range n.Out {
-					weight := n.W[((o*n.K+i)*n.K+j)*x.Shape.C+c]
-					sums[(down/n.S*s.W+right/n.S)*n.Out+o] += int64(weight) * (int64(v) - int64(n.ZA))
-				}
+	channels := x.Shape.C
+	sample.Covered(x.Shape, n, func(cell, window, place int) {
+		for c, v := range x.Data[cell*channels : (cell+1)*channels] {
+			for o := range n.Out {
+				sums[window*n.Out+o] += int64(n.W[(o*n.K*n.K+place)*channels+c]) * (int64(v) - int64(n.ZA))
 			}
 		}
-	}
+	})
 	a := api.Acc{Shape: s}
 	for _, v := range sums {
 		a.Data = append(a.Data, int32(v))
@@ -130,7 +106,7 @@ func TestSumsWrap(t *testing.T) {
 // P10.1, P10.2: all windows over all sorts of tensors.
 func TestAllWindows(t *testing.T) {
 	for _, x := range append(sample.Tensors(), sample.Tensor(api.Shape{H: 7, W: 8, C: 3})) {
-		windows(func(k, stride, p int) {
+		sample.Windows(func(k, stride, p int) {
 			for _, out := range []int{1, 2, 5, 64} {
 				n := node(x.Shape.C, k, stride, p, out)
 				s, wantErr := slid(x.Shape, n)
@@ -170,7 +146,7 @@ func TestMostWeights(t *testing.T) {
 // P10.1: one weight or one bias more or less, and none.
 func TestWrongWeights(t *testing.T) {
 	for _, x := range sample.Tensors() {
-		windows(func(k, stride, p int) {
+		sample.Windows(func(k, stride, p int) {
 			right := node(x.Shape.C, k, stride, p, 2)
 			if _, err := slid(x.Shape, right); err != api.OK {
 				return
@@ -194,25 +170,11 @@ func TestWrongWeights(t *testing.T) {
 	}
 }
 
-// wrongWindows visits windows that may not be, each part of them wrong by itself, without weights and with some.
-func wrongWindows(visit func(n api.Node)) {
-	for _, wrong := range append([]int{0, 5, 6}, sample.Far()...) {
-		for _, n := range []api.Node{
-			{K: wrong, S: 1, Out: 1}, {K: 3, S: wrong, P: 1, Out: 1}, {K: 3, S: 1, P: wrong, Out: 1}, {K: 3, S: 1, P: 1, Out: wrong},
-			{K: wrong, S: wrong, P: wrong, Out: wrong}, {K: wrong, S: 1, P: wrong, Out: 2}, {K: 1, S: wrong, Out: wrong},
-		} {
-			visit(n)
-			n.W, n.Bias = sample.Numbers(9), []int32{1}
-			visit(n)
-		}
-	}
-}
-
 // P10.1: what Slide says comes before what the weights are.
 func TestErrorsOfSlide(t *testing.T) {
 	wrong := 0
 	for _, x := range sample.Tensors() {
-		wrongWindows(func(n api.Node) {
+		sample.WrongWindows(func(n api.Node) {
 			_, want := shape.Slide(x.Shape, n.K, n.S, n.P, n.Out)
 			if want == api.OK {
 				return
@@ -238,7 +200,7 @@ func TestErrorsOfSlide(t *testing.T) {
 // P10.1, P10.2: a wrong shape or a wrong tensor comes before all that may be wrong with a node.
 func TestWrongTensors(t *testing.T) {
 	for _, x := range sample.WrongTensors() {
-		wrongWindows(func(n api.Node) {
+		sample.WrongWindows(func(n api.Node) {
 			if !shape.Right(x.Shape) {
 				checkShape(t, x.Shape, n, api.Shape{}, api.ErrShape)
 			}
@@ -273,7 +235,7 @@ func TestOtherFields(t *testing.T) {
 // P10.3
 func TestBiases(t *testing.T) {
 	x := sample.Tensor(api.Shape{H: 6, W: 5, C: 2})
-	windows(func(k, stride, p int) {
+	sample.Windows(func(k, stride, p int) {
 		n := node(2, k, stride, p, 3)
 		before, err := conv.Of(x, n)
 		if err != api.OK {
@@ -307,7 +269,7 @@ func within(s api.Shape, n api.Node, h, w int) bool {
 // P10.4
 func TestMovedByTheStep(t *testing.T) {
 	x := sample.Tensor(api.Shape{H: 16, W: 15, C: 2})
-	windows(func(k, stride, p int) {
+	sample.Windows(func(k, stride, p int) {
 		if (16+2*p-k)/stride >= api.MaxSide {
 			return
 		}

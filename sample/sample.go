@@ -81,3 +81,56 @@ func WrongTensors() []api.Tensor {
 	}
 	return l
 }
+
+// Windows visits all sides, steps and borders that a window may have.
+func Windows(visit func(k, stride, p int)) {
+	for k := 1; k <= api.MaxKernel; k++ {
+		for stride := 1; stride <= api.MaxStride; stride++ {
+			for p := range k {
+				visit(k, stride, p)
+			}
+		}
+	}
+}
+
+// WrongWindows visits windows that may not be, each part of them wrong by itself, without weights and with some.
+func WrongWindows(visit func(n api.Node)) {
+	for _, wrong := range append([]int{0, 5, 6}, Far()...) {
+		for _, n := range []api.Node{
+			{K: wrong, S: 1, Out: 1}, {K: 3, S: wrong, P: 1, Out: 1}, {K: 3, S: 1, P: wrong, Out: 1}, {K: 3, S: 1, P: 1, Out: wrong},
+			{K: wrong, S: wrong, P: wrong, Out: wrong}, {K: wrong, S: 1, P: wrong, Out: 2}, {K: 1, S: wrong, Out: wrong},
+		} {
+			visit(n)
+			n.W, n.Bias = Numbers(9), []int32{1}
+			visit(n)
+		}
+	}
+}
+
+// Slid is the shape of a window's positions with some channels, by a window that is moved as far as it goes.
+// It is not held against the limits.
+func Slid(s api.Shape, n api.Node, channels int) api.Shape {
+	r := api.Shape{C: channels}
+	for top := -n.P; top+n.K <= s.H+n.P; top += n.S {
+		r.H++
+	}
+	for left := -n.P; left+n.K <= s.W+n.P; left += n.S {
+		r.W++
+	}
+	return r
+}
+
+// Covered visits each row and column of a shape, counted together as a cell, with all windows that it is a part of
+// and its place within them.
+func Covered(s api.Shape, n api.Node, visit func(cell, window, place int)) {
+	slid := Slid(s, n, 1)
+	for cell := range s.H * s.W {
+		for place := range n.K * n.K {
+			down, right := cell/s.W+n.P-place/n.K, cell%s.W+n.P-place%n.K
+			if down < 0 || right < 0 || down%n.S != 0 || right%n.S != 0 || down/n.S >= slid.H || right/n.S >= slid.W {
+				continue
+			}
+			visit(cell, down/n.S*slid.W+right/n.S, place)
+		}
+	}
+}
