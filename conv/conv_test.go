@@ -10,17 +10,7 @@ import (
 	"stepwell/pad"
 	"stepwell/sample"
 	"stepwell/shape"
-	"stepwell/tensor"
 )
-
-// node is a window of which all weights and biases differ from their neighbours; some sums leave 32 bits.
-func node(channels, k, stride, p, out int) api.Node {
-	n := api.Node{K: k, S: stride, P: p, Out: out, ZA: int8(7*k - 20), W: sample.Numbers(out * k * k * channels)}
-	for o := range out {
-		n.Bias = append(n.Bias, math.MaxInt32-int32(o)*1000003)
-	}
-	return n
-}
 
 func check(t *testing.T, call string, got api.Acc, err api.Errno, want api.Acc, wantErr api.Errno) {
 	t.Helper()
@@ -69,38 +59,12 @@ func spread(x api.Tensor, n api.Node, s api.Shape) api.Acc {
 	return a
 }
 
-// P10.2: numbers written out.
+// P10.2: numbers written out, and sums that go on from the other end of 32 bits.
 func TestOfByHand(t *testing.T) {
-	one := api.Tensor{Shape: api.Shape{H: 1, W: 1, C: 1}, Data: []int8{3}}
-	got, err := conv.Of(one, api.Node{K: 1, S: 1, Out: 1, ZA: 1, W: []int8{2}, Bias: []int32{10}})
-	check(t, "Of one number", got, err, api.Acc{Shape: one.Shape, Data: []int32{14}}, api.OK)
-
-	row := api.Tensor{Shape: api.Shape{H: 3, W: 4, C: 1}, Data: []int8{0, 0, 0, 0, 1, 2, 3, 4, 0, 0, 0, 0}}
-	got, err = conv.Of(row, api.Node{K: 3, S: 1, Out: 1, W: []int8{0, 0, 0, 1, 10, 100, 0, 0, 0}, Bias: []int32{0}})
-	check(t, "Of a row", got, err, api.Acc{Shape: api.Shape{H: 1, W: 2, C: 1}, Data: []int32{321, 432}}, api.OK)
-
-	// Two channels go in and two go out; behind the border nothing is added, though ZA is not 0.
-	x := api.Tensor{Shape: api.Shape{H: 2, W: 1, C: 2}, Data: []int8{3, 4, 5, 6}}
-	n := api.Node{K: 2, S: 2, P: 1, Out: 2, ZA: 2, Bias: []int32{1000, -1000}, W: []int8{
-		1, 2, 3, 4, 5, 6, 7, 8,
-		-1, -2, -3, -4, -5, -6, -7, -8,
-	}}
-	got, err = conv.Of(x, n)
-	check(t, "Of two channels", got, err, api.Acc{Shape: api.Shape{H: 2, W: 1, C: 2}, Data: []int32{1023, -1023, 1025, -1025}}, api.OK)
-}
-
-// P10.2: sums go on from the other end of 32 bits.
-func TestSumsWrap(t *testing.T) {
-	x := api.Tensor{Shape: api.Shape{H: 1, W: 1, C: 2}, Data: []int8{127, 127}}
-	for _, c := range []struct {
-		weight     int8
-		bias, want int32
-	}{
-		{127, math.MaxInt32, math.MinInt32 + 64769}, {-128, math.MinInt32, math.MaxInt32 - 65279}, {127, math.MaxInt32 - 64770, math.MaxInt32}, {-128, math.MinInt32 + 65280, math.MinInt32}, {127, -64770, 0},
-	} {
-		got, err := conv.Of(x, api.Node{K: 1, S: 1, Out: 1, ZA: -128, W: []int8{c.weight, c.weight}, Bias: []int32{c.bias}})
-		check(t, "Of the greatest numbers", got, err, api.Acc{Shape: api.Shape{H: 1, W: 1, C: 1}, Data: []int32{c.want}}, api.OK)
-	}
+	sample.Sums(func(x api.Tensor, n api.Node, want api.Acc) {
+		got, err := conv.Of(x, n)
+		check(t, "Of", got, err, want, api.OK)
+	})
 }
 
 // P10.1, P10.2: all windows over all sorts of tensors.
@@ -108,7 +72,7 @@ func TestAllWindows(t *testing.T) {
 	for _, x := range append(sample.Tensors(), sample.Tensor(api.Shape{H: 7, W: 8, C: 3})) {
 		sample.Windows(func(k, stride, p int) {
 			for _, out := range []int{1, 2, 5, 64} {
-				n := node(x.Shape.C, k, stride, p, out)
+				n := sample.Node(x.Shape.C, k, stride, p, out)
 				s, wantErr := slid(x.Shape, n)
 				checkShape(t, x.Shape, n, s, wantErr)
 				var want api.Acc
@@ -124,22 +88,20 @@ func TestAllWindows(t *testing.T) {
 
 // P10.1: as many weights as a node may have, and more, though they are as many as the window asks for.
 func TestMostWeights(t *testing.T) {
-	for _, c := range []struct {
-		s      api.Shape
-		k, out int
-		want   api.Errno
-	}{
-		{api.Shape{H: 1, W: 1, C: 1024}, 1, 16, api.OK}, {api.Shape{H: 1, W: 1, C: 1024}, 1, 17, api.ErrWeights}, {api.Shape{H: 2, W: 2, C: 256}, 2, 16, api.OK}, {api.Shape{H: 2, W: 2, C: 256}, 2, 17, api.ErrWeights},
-		{api.Shape{H: 4, W: 4, C: 64}, 4, 16, api.OK}, {api.Shape{H: 4, W: 4, C: 64}, 4, 17, api.ErrWeights}, {api.Shape{H: 1, W: 1, C: 16}, 1, 1024, api.OK}, {api.Shape{H: 1, W: 1, C: 17}, 1, 1024, api.ErrWeights},
-	} {
-		n := node(c.s.C, c.k, 1, 0, c.out)
-		x, want := sample.Tensor(c.s), api.Acc{}
-		if c.want == api.OK {
-			want = spread(x, n, api.Shape{H: 1, W: 1, C: c.out})
+	heavy := map[api.Errno]int{}
+	sample.Heavy(func(s api.Shape, n api.Node) {
+		x, want := sample.Tensor(s), api.Acc{}
+		one, wantErr := slid(s, n)
+		heavy[wantErr]++
+		if wantErr == api.OK {
+			want = spread(x, n, one)
 		}
-		checkShape(t, c.s, n, want.Shape, c.want)
+		checkShape(t, s, n, one, wantErr)
 		got, err := conv.Of(x, n)
-		check(t, "Of the most weights", got, err, want, c.want)
+		check(t, "Of the most weights", got, err, want, wantErr)
+	})
+	if heavy[api.OK] != 4 || heavy[api.ErrWeights] != 4 {
+		t.Errorf("%d nodes have the most weights, %d have more", heavy[api.OK], heavy[api.ErrWeights])
 	}
 }
 
@@ -147,25 +109,15 @@ func TestMostWeights(t *testing.T) {
 func TestWrongWeights(t *testing.T) {
 	for _, x := range sample.Tensors() {
 		sample.Windows(func(k, stride, p int) {
-			right := node(x.Shape.C, k, stride, p, 2)
+			right := sample.Node(x.Shape.C, k, stride, p, 2)
 			if _, err := slid(x.Shape, right); err != api.OK {
 				return
 			}
-			for _, change := range []func(n *api.Node){
-				func(n *api.Node) { n.W = n.W[1:] },
-				func(n *api.Node) { n.W = append(slices.Clone(n.W), 0) },
-				func(n *api.Node) { n.W = n.W[:len(n.W)/2] },
-				func(n *api.Node) { n.W = nil },
-				func(n *api.Node) { n.Bias = n.Bias[1:] },
-				func(n *api.Node) { n.Bias = append(slices.Clone(n.Bias), 0) },
-				func(n *api.Node) { n.Bias = nil },
-			} {
-				n := right
-				change(&n)
+			sample.Misweighed(right, func(n api.Node) {
 				checkShape(t, x.Shape, n, api.Shape{}, api.ErrWeights)
 				got, err := conv.Of(x, n)
 				check(t, "Of wrong weights", got, err, api.Acc{}, api.ErrWeights)
-			}
+			})
 		})
 	}
 }
@@ -216,15 +168,14 @@ func TestWrongTensors(t *testing.T) {
 // P10.1, P10.2: the other fields of a node do not matter.
 func TestOtherFields(t *testing.T) {
 	x := sample.Tensor(api.Shape{H: 5, W: 4, C: 3})
-	n := node(3, 3, 2, 1, 2)
+	n := sample.Node(3, 3, 2, 1, 2)
 	s, _ := slid(x.Shape, n)
 	want := spread(x, n, s)
-	for _, other := range []api.Node{{Kind: api.Conv, Hi: 127}, {Kind: api.Flat, A: -1, B: math.MinInt64, ZB: -128, Q: api.Quant{Mult: -1, Shift: 99, Zero: 9}, R: api.Quant{Mult: 5, Shift: -1, Zero: 1}, Lo: 127, Hi: -128}} {
-		other.K, other.S, other.P, other.Out, other.ZA, other.W, other.Bias = n.K, n.S, n.P, n.Out, n.ZA, n.W, n.Bias
+	sample.Others(n, func(other api.Node) {
 		checkShape(t, x.Shape, other, s, api.OK)
 		got, err := conv.Of(x, other)
 		check(t, "Of", got, err, want, api.OK)
-	}
+	})
 	// What stands for 0 matters to the sums alone.
 	n.ZA++
 	checkShape(t, x.Shape, n, s, api.OK)
@@ -236,7 +187,7 @@ func TestOtherFields(t *testing.T) {
 func TestBiases(t *testing.T) {
 	x := sample.Tensor(api.Shape{H: 6, W: 5, C: 2})
 	sample.Windows(func(k, stride, p int) {
-		n := node(2, k, stride, p, 3)
+		n := sample.Node(2, k, stride, p, 3)
 		before, err := conv.Of(x, n)
 		if err != api.OK {
 			t.Fatalf("K %d, S %d, P %d: %d", k, stride, p, err)
@@ -273,7 +224,7 @@ func TestMovedByTheStep(t *testing.T) {
 		if (16+2*p-k)/stride >= api.MaxSide {
 			return
 		}
-		n := node(2, k, stride, p, 2)
+		n := sample.Node(2, k, stride, p, 2)
 		before, err := conv.Of(x, n)
 		moved, moveErr := pad.Move(x, stride, stride, 11)
 		after, afterErr := conv.Of(moved, n)
@@ -300,28 +251,7 @@ func TestMovedByTheStep(t *testing.T) {
 
 // Rule 2: what is passed stays as it is, up to its capacity, and shares nothing with a result, nor do two results.
 func TestNothingIsShared(t *testing.T) {
-	x := sample.Tensor(api.Shape{H: 3, W: 3, C: 2})
-	n := node(2, 3, 1, 0, 4)
-	kept := api.Node{W: slices.Clone(n.W), Bias: slices.Clone(n.Bias)}
-	x.Data, n.W = sample.Wide(x.Data), sample.Wide(n.W)
-	n.Bias = append(n.Bias, 77, 78)[:4]
-	first, err := conv.Of(x, n)
-	second, secondErr := conv.Of(x, n)
-	if err != api.OK || secondErr != api.OK || len(first.Data) != 4 {
-		t.Fatalf("%+v, %d, %d", first, err, secondErr)
-	}
-	want := slices.Clone(second.Data)
-	clear(first.Data[:cap(first.Data)])
-	if !tensor.Same(x, sample.Tensor(x.Shape)) || !slices.Equal(x.Data[:21], append(sample.Numbers(18), 101, 102, 103)) {
-		t.Error("the numbers that were passed changed")
-	}
-	if !slices.Equal(n.W[:len(n.W)+3], append(kept.W, 101, 102, 103)) || !slices.Equal(n.Bias[:6], append(kept.Bias, 77, 78)) {
-		t.Error("the node that was passed changed")
-	}
-	clear(x.Data)
-	clear(n.W)
-	clear(n.Bias)
-	if !slices.Equal(second.Data, want) {
-		t.Error("a result changed with another list")
+	if !sample.Unshared(conv.Of, api.Shape{H: 3, W: 3, C: 2}, sample.Node(2, 3, 1, 0, 4)) {
+		t.Error("what was passed changed, or a result changed with another list")
 	}
 }

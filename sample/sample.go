@@ -1,4 +1,4 @@
-// Package sample has what the tests of several layers are given: shapes and tensors, valid and not.
+// Package sample has what the tests of several layers are given: shapes, tensors and nodes, valid and not.
 package sample
 
 import (
@@ -133,4 +133,105 @@ func Covered(s api.Shape, n api.Node, visit func(cell, window, place int)) {
 			visit(cell, down/n.S*slid.W+right/n.S, place)
 		}
 	}
+}
+
+// Node is a window of which all weights and biases differ from their neighbours; some sums leave 32 bits.
+func Node(channels, k, stride, p, out int) api.Node {
+	n := api.Node{K: k, S: stride, P: p, Out: out, ZA: int8(7*k - 20), W: Numbers(out * k * k * channels)}
+	for o := range out {
+		n.Bias = append(n.Bias, math.MaxInt32-int32(o)*1000003)
+	}
+	return n
+}
+
+// Heavy visits shapes that have one window, with as many weights as a node may have, and with more.
+func Heavy(visit func(s api.Shape, n api.Node)) {
+	for _, c := range []struct {
+		s      api.Shape
+		k, out int
+	}{
+		{api.Shape{H: 1, W: 1, C: 1024}, 1, 16}, {api.Shape{H: 1, W: 1, C: 1024}, 1, 17}, {api.Shape{H: 2, W: 2, C: 256}, 2, 16}, {api.Shape{H: 2, W: 2, C: 256}, 2, 17},
+		{api.Shape{H: 4, W: 4, C: 64}, 4, 16}, {api.Shape{H: 4, W: 4, C: 64}, 4, 17}, {api.Shape{H: 1, W: 1, C: 16}, 1, 1024}, {api.Shape{H: 1, W: 1, C: 17}, 1, 1024},
+	} {
+		visit(c.s, Node(c.s.C, c.k, 1, 0, c.out))
+	}
+}
+
+// Misweighed visits what a node becomes by one weight or one bias more or less, and by none.
+func Misweighed(right api.Node, visit func(n api.Node)) {
+	for _, change := range []func(n *api.Node){
+		func(n *api.Node) { n.W = n.W[1:] },
+		func(n *api.Node) { n.W = append(slices.Clone(n.W), 0) },
+		func(n *api.Node) { n.W = n.W[:len(n.W)/2] },
+		func(n *api.Node) { n.W = nil },
+		func(n *api.Node) { n.Bias = n.Bias[1:] },
+		func(n *api.Node) { n.Bias = append(slices.Clone(n.Bias), 0) },
+		func(n *api.Node) { n.Bias = nil },
+	} {
+		n := right
+		change(&n)
+		visit(n)
+	}
+}
+
+// Others visits a node with other values in each field that does not tell what its window adds up.
+func Others(right api.Node, visit func(n api.Node)) {
+	for _, n := range []api.Node{
+		{Kind: api.Conv, Hi: 127},
+		{Kind: api.Flat, A: -1, B: math.MinInt64, ZB: -128, Q: api.Quant{Mult: -1, Shift: 99, Zero: 9}, R: api.Quant{Mult: 5, Shift: -1, Zero: 1}, Lo: 127, Hi: -128},
+	} {
+		n.K, n.S, n.P, n.Out, n.ZA, n.W, n.Bias = right.K, right.S, right.P, right.Out, right.ZA, right.W, right.Bias
+		visit(n)
+	}
+}
+
+// Sums visits tensors and nodes whose sums are written out, some of them beyond the limits of 32 bits.
+func Sums(visit func(x api.Tensor, n api.Node, want api.Acc)) {
+	one := api.Tensor{Shape: api.Shape{H: 1, W: 1, C: 1}, Data: []int8{3}}
+	visit(one, api.Node{K: 1, S: 1, Out: 1, ZA: 1, W: []int8{2}, Bias: []int32{10}}, api.Acc{Shape: one.Shape, Data: []int32{14}})
+
+	row := api.Tensor{Shape: api.Shape{H: 3, W: 4, C: 1}, Data: []int8{0, 0, 0, 0, 1, 2, 3, 4, 0, 0, 0, 0}}
+	n := api.Node{K: 3, S: 1, Out: 1, W: []int8{0, 0, 0, 1, 10, 100, 0, 0, 0}, Bias: []int32{0}}
+	visit(row, n, api.Acc{Shape: api.Shape{H: 1, W: 2, C: 1}, Data: []int32{321, 432}})
+
+	// Two channels go in and three go out; behind the border nothing is added, though ZA is not 0.
+	x := api.Tensor{Shape: api.Shape{H: 2, W: 1, C: 2}, Data: []int8{3, 4, 5, 6}}
+	n = api.Node{K: 2, S: 2, P: 1, Out: 3, ZA: 2, Bias: []int32{1000, -1000, 7}, W: []int8{
+		1, 2, 3, 4, 5, 6, 7, 8,
+		-1, -2, -3, -4, -5, -6, -7, -8,
+		0, 0, 0, 1, 0, 0, 1, 0,
+	}}
+	visit(x, n, api.Acc{Shape: api.Shape{H: 2, W: 1, C: 3}, Data: []int32{1023, -1023, 8, 1025, -1025, 11}})
+
+	most := api.Tensor{Shape: api.Shape{H: 1, W: 1, C: 2}, Data: []int8{127, 127}}
+	for _, c := range []struct {
+		weight     int8
+		bias, want int32
+	}{
+		{127, math.MaxInt32, math.MinInt32 + 64769}, {-128, math.MinInt32, math.MaxInt32 - 65279}, {127, math.MaxInt32 - 64770, math.MaxInt32}, {-128, math.MinInt32 + 65280, math.MinInt32}, {127, -64770, 0},
+	} {
+		n := api.Node{K: 1, S: 1, Out: 1, ZA: -128, W: []int8{c.weight, c.weight}, Bias: []int32{c.bias}}
+		visit(most, n, api.Acc{Shape: one.Shape, Data: []int32{c.want}})
+	}
+}
+
+// Unshared calls what computes sums, and tells whether no list that was passed changes, up to its capacity, and no
+// result shares its numbers with such a list or with another result.
+func Unshared(of func(x api.Tensor, n api.Node) (api.Acc, api.Errno), s api.Shape, right api.Node) bool {
+	x, n := Tensor(s), right
+	x.Data, n.W, n.Bias = Wide(x.Data), Wide(right.W), append(slices.Clone(right.Bias), 77, 78)[:len(right.Bias)]
+	first, err := of(x, n)
+	second, secondErr := of(x, n)
+	if err != api.OK || secondErr != api.OK || len(first.Data) == 0 {
+		return false
+	}
+	want := slices.Clone(second.Data)
+	clear(first.Data[:cap(first.Data)])
+	kept := slices.Equal(x.Data[:len(x.Data)+3], append(Tensor(s).Data, 101, 102, 103)) &&
+		slices.Equal(n.W[:len(n.W)+3], append(slices.Clone(right.W), 101, 102, 103)) &&
+		slices.Equal(n.Bias[:len(n.Bias)+2], append(slices.Clone(right.Bias), 77, 78))
+	clear(x.Data)
+	clear(n.W)
+	clear(n.Bias)
+	return kept && slices.Equal(second.Data, want)
 }
