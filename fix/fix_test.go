@@ -8,6 +8,7 @@ import (
 
 	"stepwell/api"
 	"stepwell/fix"
+	"stepwell/sample"
 )
 
 const (
@@ -24,17 +25,10 @@ var accs = []int32{
 	0, 1, 2, 3, 4, 5, 126, 127, 128, 129, 255, 256, 257, 384, 1000, 65536, 1000003, 1 << 30, max32 - 1, max32,
 }
 
-var rightScales = []api.Quant{
-	{Mult: 1}, {Mult: 1, Zero: 1}, {Mult: 1, Zero: -128}, {Mult: 1, Zero: 127}, {Mult: 3, Shift: 1, Zero: -7}, {Mult: 5, Shift: 4, Zero: 9},
-	{Mult: 1 << 30, Shift: 30}, {Mult: 1 << 30, Shift: 31, Zero: 3}, {Mult: 1 << 30, Shift: 34, Zero: -4}, {Mult: 1518500250, Shift: 40, Zero: 50},
-	{Mult: 1, Shift: api.MaxShift, Zero: 5}, {Mult: max32, Shift: 0, Zero: -3}, {Mult: max32, Shift: api.MaxShift, Zero: -3}, {Mult: max32, Shift: 31, Zero: 127},
-}
-
-var wrongScales = []api.Quant{
-	{}, {Zero: 5}, {Mult: 0, Shift: 3, Zero: 5}, {Mult: -1, Zero: 5}, {Mult: min32, Shift: 31, Zero: 5}, {Mult: 1, Shift: -1, Zero: 5},
-	{Mult: 1, Shift: api.MaxShift + 1, Zero: 5}, {Mult: 1, Shift: 64, Zero: 5}, {Mult: max32, Shift: minInt, Zero: -5}, {Mult: max32, Shift: maxInt, Zero: -5},
-	{Mult: -7, Shift: -7, Zero: -7}, {Mult: 1, Shift: 1 << 32, Zero: 5},
-}
+var (
+	rightScales = sample.Scales()
+	wrongScales = sample.WrongScales()
+)
 
 // rounded is v by 2 to the power of shift, without limits: of its two neighbours below and above, the nearer one.
 func rounded(v *big.Int, shift int) *big.Int {

@@ -14,20 +14,11 @@ import (
 
 const max32 = math.MaxInt32
 
-// rightScales is valid scales, some at each limit.
-var rightScales = []api.Quant{
-	{Mult: 1}, {Mult: 1, Zero: 1}, {Mult: 1, Zero: -128}, {Mult: 1, Zero: 127}, {Mult: 1, Shift: 1, Zero: 5}, {Mult: 3, Shift: 1, Zero: -7}, {Mult: 5, Shift: 4, Zero: 9},
-	{Mult: 1 << 30, Shift: 31, Zero: 3}, {Mult: 1518500250, Shift: 31, Zero: 50}, {Mult: max32, Zero: -3}, {Mult: max32, Shift: api.MaxShift, Zero: -3}, {Mult: 1, Shift: api.MaxShift, Zero: 4},
-}
-
-// wrongScales is invalid scales.
-var wrongScales = []api.Quant{
-	{}, {Zero: 5}, {Mult: 0, Shift: 3}, {Mult: -1}, {Mult: math.MinInt32, Shift: 31}, {Mult: 1, Shift: -1, Zero: 5}, {Mult: 1, Shift: api.MaxShift + 1},
-	{Mult: 1, Shift: math.MinInt64}, {Mult: max32, Shift: math.MaxInt64, Zero: -5}, {Mult: 1, Shift: 1 << 32},
-}
-
-// reaches is the limits between which numbers lie, some of them none.
-var reaches = [][2]int8{{-128, 127}, {0, 127}, {-10, 10}, {5, 5}, {-128, -128}, {127, 127}, {3, -3}, {127, -128}}
+var (
+	rightScales = sample.Scales()
+	wrongScales = sample.WrongScales()
+	reaches     = sample.Reaches()
+)
 
 // numbers is numbers at both limits, around 0, and between.
 var numbers = []int8{-128, -127, -100, -51, -3, -2, -1, 0, 1, 2, 3, 4, 77, 126, 127}

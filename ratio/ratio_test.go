@@ -8,6 +8,7 @@ import (
 
 	"stepwell/api"
 	"stepwell/ratio"
+	"stepwell/sample"
 )
 
 const (
@@ -29,11 +30,7 @@ var rightShifts = []int{0, 1, 2, 15, 29, 30, 31, 32, 33, 34, 60, 61, api.MaxShif
 
 var rightMults = []int32{1, 2, 3, 5, 7, 255, 256, 65535, 65536, 1<<29 - 1, 1 << 29, 1<<29 + 1, 1<<30 - 1, 1 << 30, 1<<30 + 1, 3 << 29, max32 - 1, max32}
 
-var wrongScales = []api.Quant{
-	{}, {Zero: 5}, {Mult: 0, Shift: 3, Zero: 5}, {Mult: -1, Zero: 5}, {Mult: min32, Shift: 31, Zero: 5}, {Mult: -1 << 30, Shift: 30}, {Mult: 1, Shift: -1, Zero: 5},
-	{Mult: 1, Shift: api.MaxShift + 1, Zero: 5}, {Mult: 1 << 30, Shift: 64, Zero: 5}, {Mult: max32, Shift: minInt, Zero: -5}, {Mult: max32, Shift: maxInt, Zero: -5},
-	{Mult: -7, Shift: -7, Zero: -7}, {Mult: 1, Shift: 1 << 32, Zero: 5}, {Mult: 1 << 30, Shift: 1<<32 + 30, Zero: 5},
-}
+var wrongScales = sample.WrongScales()
 
 // eachScale visits valid scales.
 func eachScale(visit func(q api.Quant)) {

@@ -1,4 +1,4 @@
-// Package sample has what the tests of several layers are given: shapes, tensors and nodes, valid and not.
+// Package sample has what the tests of several layers are given: scales, shapes, tensors and nodes, valid and not.
 package sample
 
 import (
@@ -15,6 +15,31 @@ func Far() []int {
 		math.MinInt64, math.MinInt64 + 1, -1 << 62, -1 << 32, -1025, -17, -2, -1,
 		1024, 1025, 1 << 31, 1 << 32, 1<<32 + 1, 1 << 62, math.MaxInt64 - 1, math.MaxInt64,
 	}
+}
+
+// Scales is valid scales, some at each limit.
+func Scales() []api.Quant {
+	const most = math.MaxInt32
+	return []api.Quant{
+		{Mult: 1}, {Mult: 1, Zero: 1}, {Mult: 1, Zero: -128}, {Mult: 1, Zero: 127}, {Mult: 1, Shift: 1, Zero: 5}, {Mult: 3, Shift: 1, Zero: -7}, {Mult: 5, Shift: 4, Zero: 9},
+		{Mult: 1 << 30, Shift: 30}, {Mult: 1 << 30, Shift: 31, Zero: 3}, {Mult: 1 << 30, Shift: 34, Zero: -4}, {Mult: 1518500250, Shift: 31, Zero: 50}, {Mult: 1518500250, Shift: 40, Zero: 50},
+		{Mult: 1, Shift: api.MaxShift, Zero: 5}, {Mult: most, Zero: -3}, {Mult: most, Shift: 31, Zero: 127}, {Mult: most, Shift: api.MaxShift, Zero: -3},
+	}
+}
+
+// WrongScales is invalid scales.
+func WrongScales() []api.Quant {
+	const least, most = math.MinInt32, math.MaxInt32
+	return []api.Quant{
+		{}, {Zero: 5}, {Mult: 0, Shift: 3, Zero: 5}, {Mult: -1, Zero: 5}, {Mult: least, Shift: 31, Zero: 5}, {Mult: -1 << 30, Shift: 30}, {Mult: 1, Shift: -1, Zero: 5},
+		{Mult: 1, Shift: api.MaxShift + 1, Zero: 5}, {Mult: 1 << 30, Shift: 64, Zero: 5}, {Mult: most, Shift: math.MinInt64, Zero: -5}, {Mult: most, Shift: math.MaxInt64, Zero: -5},
+		{Mult: -7, Shift: -7, Zero: -7}, {Mult: 1, Shift: 1 << 32, Zero: 5}, {Mult: 1 << 30, Shift: 1<<32 + 30, Zero: 5},
+	}
+}
+
+// Reaches is limits between which numbers lie, some of them exchanged.
+func Reaches() [][2]int8 {
+	return [][2]int8{{-128, 127}, {0, 127}, {-10, 10}, {5, 5}, {-128, -128}, {127, 127}, {3, -3}, {127, -128}}
 }
 
 // Shapes is valid shapes, some at each limit.
