@@ -6,6 +6,7 @@ import (
 	"testing"
 
 	"stepwell/arena"
+	"stepwell/lot"
 	"stepwell/sample"
 )
 
@@ -119,14 +120,6 @@ func lists(length, lo, hi int, visit func(l []int)) {
 	}
 }
 
-// drawn is numbers that look drawn by lot, the same ones each time.
-func drawn(seed uint32) func(lo, hi int) int {
-	return func(lo, hi int) int {
-		seed = seed*1664525 + 1013904223
-		return lo + int(seed>>8)%(hi-lo+1)
-	}
-}
-
 // cases visits sizes and untils: all of few small ones, and many of some that are drawn.
 func cases(visit func(sizes, until []int)) {
 	for length := range 4 {
@@ -134,7 +127,7 @@ func cases(visit func(sizes, until []int)) {
 			lists(length, -1, length+1, func(until []int) { visit(sizes, until) })
 		})
 	}
-	next := drawn(7)
+	next := lot.From(7)
 	for range 3000 {
 		var sizes, until []int
 		length := next(4, 25)
@@ -274,7 +267,7 @@ func TestSound(t *testing.T) {
 			})
 		})
 	}
-	next := drawn(9)
+	next := lot.From(9)
 	cases(func(sizes, until []int) {
 		// What Place tells, with one value that may have another place.
 		at, all, _ := arena.Place(sizes, until)

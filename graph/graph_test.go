@@ -8,6 +8,7 @@ import (
 	"stepwell/api"
 	"stepwell/graph"
 	"stepwell/kinds"
+	"stepwell/lot"
 	"stepwell/run"
 	"stepwell/sample"
 	"stepwell/tensor"
@@ -17,66 +18,6 @@ var (
 	one  = api.Quant{Mult: 1}
 	half = api.Quant{Mult: 1, Shift: 1, Zero: 1}
 )
-
-// drawn is numbers that look drawn by lot, the same ones each time.
-func drawn(seed uint32) func(lo, hi int) int {
-	return func(lo, hi int) int {
-		seed = seed*1664525 + 1013904223
-		return lo + int(seed>>8)%(hi-lo+1)
-	}
-}
-
-// node is one that is drawn, for values of some shapes. It may be that it cannot take them.
-func node(next func(lo, hi int) int, shapes []api.Shape) api.Node {
-	n := api.Node{
-		Kind: next(api.Conv, api.Flat), A: next(0, len(shapes)-1), B: next(0, len(shapes)-1),
-		K: next(1, 4), S: next(1, 2), P: next(0, 2), Out: next(1, 5), ZA: int8(next(-20, 20)), ZB: int8(next(-20, 20)),
-		Q: api.Quant{Mult: int32(next(1, 9)), Shift: next(1, 4), Zero: int8(next(-20, 20))}, R: api.Quant{Mult: int32(next(1, 9)), Shift: next(1, 4)},
-		Lo: int8(next(-128, -60)), Hi: int8(next(60, 127)),
-	}
-	a := shapes[n.A]
-	window, outputs := n.K*n.K, n.Out
-	switch n.Kind {
-	case api.Conv:
-		window *= a.C
-	case api.Depth:
-		outputs = a.C
-	case api.Dense:
-		window = a.H * a.W * a.C
-	}
-	for range window * outputs {
-		n.W = append(n.W, int8(next(-9, 9)))
-	}
-	for range outputs {
-		n.Bias = append(n.Bias, int32(next(-99, 99)))
-	}
-	return kinds.Plain(n)
-}
-
-// block is nodes of which each one can take its values, and the shapes of all values.
-func block(next func(lo, hi int) int, in api.Shape, many int) ([]api.Node, []api.Shape) {
-	var l []api.Node
-	shapes := []api.Shape{in}
-	for len(l) < many {
-		n := node(next, shapes)
-		s, err := kinds.Shape(n, shapes[n.A], shapes[n.B])
-		if err == api.OK {
-			l, shapes = append(l, n), append(shapes, s)
-		}
-	}
-	return l, shapes
-}
-
-// blocks visits blocks of as many nodes as there may be, and of fewer, for tensors of several shapes.
-func blocks(visit func(l []api.Node, shapes []api.Shape, x api.Tensor)) {
-	next := drawn(11)
-	for _, s := range []api.Shape{{H: 1, W: 1, C: 1}, {H: 4, W: 3, C: 2}, {H: 6, W: 6, C: 3}, {H: 1, W: 5, C: 4}, {H: 7, W: 2, C: 1}, {H: 16, W: 16, C: 4}} {
-		for round := range 12 * api.MaxNodes {
-			l, shapes := block(next, s, 1+round%api.MaxNodes)
-			visit(l, shapes, sample.Tensor(s))
-		}
-	}
-}
 
 // value is a value of a block, from those that it needs, and no other.
 func value(l []api.Node, x api.Tensor, i int) api.Tensor {
@@ -172,7 +113,7 @@ func TestBlockByHand(t *testing.T) {
 // P27.1, P27.2: blocks of nodes of all kinds, with each value computed from those that it needs alone.
 func TestBlocks(t *testing.T) {
 	ran := map[int]int{}
-	blocks(func(l []api.Node, shapes []api.Shape, x api.Tensor) {
+	lot.Blocks(func(l []api.Node, shapes []api.Shape, x api.Tensor) {
 		var want []api.Tensor
 		for i := range len(l) + 1 {
 			want = append(want, value(l, x, i))
@@ -191,110 +132,39 @@ func TestBlocks(t *testing.T) {
 	}
 }
 
-// P27.1, P27.2: what is wrong with the input or the number of nodes comes before what is wrong with a node.
+// P27.1, P27.2: what is wrong with the input or the number of nodes comes first; then the first node of which something
+// is wrong is told, with the first that is wrong with it.
 func TestWrongBlocks(t *testing.T) {
-	flat, wrong := api.Node{Kind: api.Flat}, api.Node{Kind: -1, A: -1}
+	told := map[api.Errno]int{}
+	lot.WrongBlocks(func(l []api.Node, x api.Tensor, at int, err api.Errno) {
+		checkShapes(t, l, x.Shape, nil, at, err)
+		checkValues(t, l, x, nil, at, err)
+		told[err]++
+	})
+	for _, err := range []api.Errno{api.ErrShape, api.ErrEmpty, api.ErrFull, api.ErrKind, api.ErrArg, api.ErrQuant, api.ErrValue, api.ErrWeights} {
+		if told[err] == 0 {
+			t.Errorf("only %v was told", told)
+		}
+	}
+}
+
+// P27.1, P27.2: an invalid tensor comes before what is wrong with the number of nodes, or with a node; and as many
+// nodes as there may be.
+func TestWrongTensors(t *testing.T) {
 	for _, many := range []int{0, 1, 8, 9, 10, 300} {
-		for _, n := range []api.Node{flat, wrong} {
+		for _, n := range []api.Node{{Kind: api.Flat}, {Kind: -1, A: -1}} {
 			l := slices.Repeat([]api.Node{n}, many)
-			for _, s := range sample.WrongShapes() {
-				checkShapes(t, l, s, nil, -1, api.ErrShape)
-			}
 			for _, x := range sample.WrongTensors() {
 				checkValues(t, l, x, nil, -1, api.ErrShape)
 			}
-			for _, s := range sample.Shapes() {
-				switch {
-				case many == 0:
-					checkWrong(t, l, s, -1, api.ErrEmpty)
-				case many > api.MaxNodes:
-					checkWrong(t, l, s, -1, api.ErrFull)
-				case n.Kind == -1:
-					checkWrong(t, l, s, 0, api.ErrKind)
-				default:
-					_, at, err := graph.Shapes(l, s)
-					if at != many || err != api.OK {
-						t.Errorf("Shapes of %d nodes = %d, %d", many, at, err)
-					}
-				}
-			}
 		}
 	}
-	checkWrong(t, []api.Node{}, api.Shape{H: 1, W: 1, C: 1}, -1, api.ErrEmpty)
-}
-
-// spoiled is what may be wrong with a node, and what is told of it: what comes first is told first.
-type spoiled struct {
-	err api.Errno
-	of  func(n api.Node) bool
-	by  func(n *api.Node, i int)
-}
-
-func all(n api.Node) bool { return true }
-
-func scaled(n api.Node) bool { return kinds.Sums(n.Kind) || n.Kind == api.Join || n.Kind == api.Act }
-
-func joins(n api.Node) bool { return n.Kind == api.Join }
-
-func slides(n api.Node) bool { return n.K > 0 }
-
-// wrongs is all that may be wrong with a node at a position, in the order in which it is told.
-func wrongs() []spoiled {
-	l := []spoiled{
-		{api.ErrKind, all, func(n *api.Node, i int) { n.Kind = 0 }},
-		{api.ErrKind, all, func(n *api.Node, i int) { n.Kind = 10 }},
-		{api.ErrArg, all, func(n *api.Node, i int) { n.R.Zero = 1 }},
-		{api.ErrArg, func(n api.Node) bool { return !joins(n) }, func(n *api.Node, i int) { n.B = -1 }},
-		{api.ErrQuant, scaled, func(n *api.Node, i int) { n.Q.Mult = 0 }},
-		{api.ErrQuant, joins, func(n *api.Node, i int) { n.R.Shift = 63 }},
-		{api.ErrArg, scaled, func(n *api.Node, i int) { n.Lo, n.Hi = 1, 0 }},
-		{api.ErrValue, all, func(n *api.Node, i int) { n.A = i + 1 }},
-		{api.ErrValue, joins, func(n *api.Node, i int) { n.B = i + 1 }},
-		{api.ErrValue, all, func(n *api.Node, i int) { n.A = i + 2 }},
-		{api.ErrValue, joins, func(n *api.Node, i int) { n.B = i + 2 }},
-	}
-	for _, far := range sample.Far() {
-		l = append(l,
-			spoiled{api.ErrValue, all, func(n *api.Node, i int) { n.A = far }},
-			spoiled{api.ErrValue, joins, func(n *api.Node, i int) { n.B = far }})
-	}
-	return append(l,
-		spoiled{api.ErrArg, slides, func(n *api.Node, i int) { n.S = 5 }},
-		spoiled{api.ErrArg, func(n api.Node) bool { return n.Kind == api.Pad }, func(n *api.Node, i int) { n.P = 5 }},
-		spoiled{api.ErrWeights, func(n api.Node) bool { return kinds.Sums(n.Kind) }, func(n *api.Node, i int) { n.W = append(slices.Clone(n.W), 0) }})
-}
-
-// P27.1, P27.2: the first node of which something is wrong is told, with the first that is wrong with it.
-func TestWrongNodes(t *testing.T) {
-	next := drawn(13)
-	s := api.Shape{H: 4, W: 3, C: 2}
-	told := map[api.Errno]int{}
-	for range 40 {
-		right, _ := block(next, s, api.MaxNodes)
-		for i := range right {
-			for first, wrong := range wrongs() {
-				if !wrong.of(right[i]) {
-					continue
-				}
-				l := slices.Clone(right)
-				wrong.by(&l[i], i)
-				checkWrong(t, l, s, i, wrong.err)
-				told[wrong.err]++
-				// Something else of the same node that is told later; and all later nodes.
-				if later := wrongs()[next(first, len(wrongs())-1)]; later.of(right[i]) {
-					later.by(&l[i], i)
-					wrong.by(&l[i], i)
-				}
-				for j := i + 1; j < len(l); j++ {
-					l[j] = api.Node{Kind: next(-1, 10), A: next(-1, 9), Lo: 1}
-				}
-				checkWrong(t, l, s, i, wrong.err)
+	for _, s := range sample.Shapes() {
+		for many := 1; many <= api.MaxNodes; many++ {
+			_, at, err := graph.Shapes(slices.Repeat([]api.Node{{Kind: api.Flat}}, many), s)
+			if at != many || err != api.OK {
+				t.Errorf("Shapes of %d nodes = %d, %d", many, at, err)
 			}
-		}
-	}
-	for _, err := range []api.Errno{api.ErrKind, api.ErrArg, api.ErrQuant, api.ErrValue, api.ErrWeights} {
-		if told[err] == 0 {
-			t.Errorf("only %v was told", told)
 		}
 	}
 }
@@ -372,8 +242,8 @@ func TestLast(t *testing.T) {
 		want[len(l)] = len(l) + 1
 		checkLast(t, l, want...)
 	}
-	blocks(func(l []api.Node, shapes []api.Shape, x api.Tensor) { check(l) })
-	next := drawn(17)
+	lot.Blocks(func(l []api.Node, shapes []api.Shape, x api.Tensor) { check(l) })
+	next := lot.From(17)
 	for range 500 {
 		var l []api.Node
 		for i := range next(0, 30) {
@@ -387,8 +257,8 @@ func TestLast(t *testing.T) {
 // P27.4: another node whose value is not used, or none, at whatever place.
 func TestUnusedNodes(t *testing.T) {
 	unused := 0
-	next := drawn(19)
-	blocks(func(l []api.Node, shapes []api.Shape, x api.Tensor) {
+	next := lot.From(19)
+	lot.Blocks(func(l []api.Node, shapes []api.Shape, x api.Tensor) {
 		want, _, _ := graph.Eval(l, x)
 		for i := range l[:len(l)-1] {
 			if graph.Last(l)[i+1] != 0 {
@@ -396,13 +266,7 @@ func TestUnusedNodes(t *testing.T) {
 			}
 			unused++
 			other := slices.Clone(l)
-			for {
-				n := node(next, shapes[:i+1])
-				if _, err := kinds.Shape(n, shapes[n.A], shapes[n.B]); err == api.OK {
-					other[i] = n
-					break
-				}
-			}
+			other[i], _ = next.Fitting(shapes[:i+1])
 			got, at, err := graph.Eval(other, x)
 			if !tensor.Same(got, want) || at != len(l) || err != api.OK {
 				t.Fatalf("Eval(%+v) = %+v, %d, %d, want %+v", other, got, at, err, want)
@@ -432,33 +296,10 @@ func without(l []api.Node, at int) []api.Node {
 	return l
 }
 
-// wideNodes is the same nodes with others in their capacity, and all their lists too.
-func wideNodes(l []api.Node) []api.Node {
-	w := append(slices.Clone(l), api.Node{Kind: 77}, api.Node{Kind: 78})[:len(l)]
-	for i, n := range l {
-		w[i].W, w[i].Bias = sample.Wide(n.W), append(slices.Clone(n.Bias), 77)[:len(n.Bias)]
-	}
-	return w
-}
-
-// kept tells whether wideNodes are still what they were.
-func kept(w, l []api.Node) bool {
-	for i, n := range l {
-		if !slices.Equal(w[i].W[:len(n.W)+3], sample.Wide(n.W)[:len(n.W)+3]) || !slices.Equal(w[i].Bias[:len(n.Bias)+1], append(slices.Clone(n.Bias), 77)) {
-			return false
-		}
-		if w[i].Kind != n.Kind || w[i].A != n.A || w[i].B != n.B || w[i].Q != n.Q || w[i].R != n.R {
-			return false
-		}
-	}
-	more := w[:len(l)+2]
-	return more[len(l)].Kind == 77 && more[len(l)+1].Kind == 78
-}
-
 // Rule 2: what is passed stays as it is, up to its capacity, and shares nothing with what is told; no two values share anything.
 func TestNothingIsShared(t *testing.T) {
-	blocks(func(l []api.Node, shapes []api.Shape, right api.Tensor) {
-		w, x := wideNodes(l), right
+	lot.Blocks(func(l []api.Node, shapes []api.Shape, right api.Tensor) {
+		w, x := lot.Wide(l), right
 		x.Data = sample.Wide(right.Data)
 		want, _, _ := graph.Values(l, right)
 		first, _, _ := graph.Values(w, x)
@@ -472,15 +313,11 @@ func TestNothingIsShared(t *testing.T) {
 				t.Fatalf("a value changed with value %d of %+v", i, l)
 			}
 		}
-		if !kept(w, l) || !slices.Equal(x.Data[:len(x.Data)+3], sample.Wide(right.Data)[:len(x.Data)+3]) {
+		if !lot.Kept(w, l) || !slices.Equal(x.Data[:len(x.Data)+3], sample.Wide(right.Data)[:len(x.Data)+3]) {
 			t.Fatalf("what was passed for %+v changed", l)
 		}
 		clear(x.Data)
-		for i := range w {
-			clear(w[i].W)
-			clear(w[i].Bias)
-		}
-		clear(w)
+		lot.Forget(w)
 		if !slices.EqualFunc(second, want, tensor.Same) || !tensor.Same(out, want[len(l)]) {
 			t.Fatalf("a value of %+v changed with what was passed", l)
 		}
