@@ -1,4 +1,4 @@
-// Package lot has what the tests of several layers are given, drawn by lot: nodes and blocks, and what may be wrong with them.
+// Package lot has what the tests of several layers are given, drawn by lot: nodes, blocks and bundles, and what may be wrong with them.
 package lot
 
 import (
